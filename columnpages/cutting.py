@@ -28,10 +28,11 @@ def breaks_at(things, place):
     return thing.kind == PENALTY and penalty_of(thing) < NO_BREAK
 
 
-# None, if the first break is too full or either part would have nothing to show.
+# None, if the first break is too full or either part would have nothing to show
+# (the rest never has, if the break is the column's end).
 def cut_column(things, height, greatest_depth, glue):
     place = cut_place(things, height, greatest_depth)
-    if place < 0 or place == len(things):
+    if place < 0:
         return None
     upper = things[:place]
     rest = rest_of(things[place + 1:], glue)

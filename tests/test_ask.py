@@ -2,6 +2,8 @@
 
 import unittest
 
+from columnpages.pages import break_cost, page_before
+from columnpages.styles import Style
 from tests.build import ASK, FORCED, LONGEST, MORE, NONE, PAGE, adjust, anchor, box, class_told, column, disc, glue
 from tests.build import glyph, insertion, kern, last, leaders, left, mark, page_row, penalty, pressed, put, rule, run
 from tests.build import shares, style
@@ -175,6 +177,23 @@ class CostTest(unittest.TestCase):
             self.assertEqual(asked(box(1), penalty(0), box(99), penalty(1), box(1), penalty(2), top=five), ended(0))
             self.assertEqual(asked(box(1), penalty(1), box(99), penalty(0), box(1), penalty(2), top=five), ended(0))
         self.assertEqual(asked(box(1), penalty(0), box(99), penalty(1), box(1), penalty(2), top=[0, 1, 0, 0, 0]), ended(1))
+
+
+    def test_costs_one_by_one(self):
+        def cost(height, number, extra=0, top=NONE):
+            page = page_before(pressed(put(box(50))).column, 1, Style(height, 0, top), {})
+            page.extra = extra
+            return break_cost(page, number)
+        self.assertIsNone(cost(49, 0))
+        self.assertIsNone(cost(49, -10000))
+        self.assertEqual(cost(100, -10000, 10000), -10000)
+        self.assertEqual(cost(100, -20000, 5), -20000)
+        self.assertIsNone(cost(100, 0, 10000))
+        self.assertIsNone(cost(50, -9999, 10000))
+        self.assertEqual(cost(100, 7, 9999), 100000)
+        self.assertEqual(cost(50, 7, 9999), 10006)
+        self.assertEqual(cost(50, 7, -20), -13)
+        self.assertEqual(cost(100, 7, 30, self.TOP), 49)
 
 
 class PointTest(unittest.TestCase):

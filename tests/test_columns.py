@@ -98,6 +98,10 @@ class PackedTest(unittest.TestCase):
         for order in range(4):
             self.assertEqual(setting(18, box(10), glue(2, 4, order), glue(0, 5, order)), (order, 6, 9))
 
+    def test_one_more_or_less(self):
+        self.assertEqual(setting(11, box(10), glue(0, 4, 0, 5, 0)), (0, 1, 4))
+        self.assertEqual(setting(9, box(10), glue(0, 4, 0, 5, 0)), (0, -1, 5))
+
     def test_stretch_of_order_0_may_be_passed(self):
         self.assertEqual(setting(100, glue(0, 5)), (0, 100, 5))
 

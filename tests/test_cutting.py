@@ -69,6 +69,7 @@ class BreakTest(unittest.TestCase):
 
     def test_the_end(self):
         self.assertEqual(place(10, box(10)), 1)
+        self.assertEqual(place(20, box(10)), 1)
         self.assertEqual(place(9, box(10)), -1)
         self.assertEqual(place(0), 0)
 
@@ -98,8 +99,17 @@ class CostTest(unittest.TestCase):
 
     def test_a_forced_one_stops(self):
         self.assertEqual(place(20, box(5), FORCED, box(15), penalty(-5000), box(9)), 1)
+        self.assertEqual(place(20, box(5), FORCED, box(15), penalty(-20000), box(9)), 1)
         self.assertEqual(place(20, box(20), penalty(-9999), FORCED, box(1), penalty(0)), 2)
         self.assertEqual(place(20, box(20), penalty(-9999), penalty(-10001), box(1)), 2)
+
+    def test_a_forced_one_costs_its_penalty_alone(self):
+        # 5 by a stretch of 10 is 12, and doesn't count; neither does it count if it fits worst.
+        self.assertEqual(place(20, box(20), glue(0, 10), penalty(-9999), kern(-5), FORCED, box(9)), 4)
+        self.assertEqual(place(20, box(15), glue(0, 10), penalty(0), glue(0, -10), FORCED, box(9)), 4)
+
+    def test_the_first_thing_may_be_the_best_break(self):
+        self.assertEqual(place(0, penalty(-5), mark(1), penalty(0)), 0)
 
     def test_a_forced_one_that_is_too_full_is_not_counted(self):
         self.assertEqual(place(20, box(5), penalty(9000), box(16), FORCED), 1)

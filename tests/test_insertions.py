@@ -299,6 +299,15 @@ class WaitTest(unittest.TestCase):
         second = insertion(3, box(1))
         self.assertEqual(outcome(box(50), first, second, FORCED), (ended(-10000), 100, {}, [first, second, penalty(10000)]))
 
+    def test_a_closed_class_is_not_cut(self):
+        first = insertion(3, box(60))
+        second = insertion(3, box(20), penalty(0), box(60))
+        self.assertEqual(class_of_things(box(50), second, FORCED), {3: [box(20)]})
+        self.assertEqual(outcome(box(50), first, second, FORCED), (ended(-10000), 100, {}, [first, second, penalty(10000)]))
+        third = insertion(3, glue(), box(60))
+        self.assertEqual(outcome(box(50), second, second, FORCED),
+                         (ended(-10000, 3), 80, {3: [box(20)]}, [third, second, penalty(10000)]))
+
     def test_what_came_before_it_was_closed_stays(self):
         things = [box(50), insertion(3, box(1)), insertion(3, box(60)), insertion(3, box(2)), FORCED]
         self.assertEqual(outcome(*things), (ended(-10000, 3), 99, {3: [box(1)]}, [things[2], things[3], penalty(10000)]))

@@ -2,6 +2,7 @@
 
 import unittest
 
+from columnpages.styles import class_style, first_style
 from tests.build import ASK, FORCED, LONGEST, NONE, PAGE, box, class_told, glue, insertion, last, page_row, penalty
 from tests.build import put, run, style
 
@@ -54,6 +55,11 @@ class StyleTest(unittest.TestCase):
     def test_at_first_all_is_0(self):
         self.assertEqual(last(put(box(0, 4), FORCED), ASK, PAGE), page_row(0, 0, 0, (0, 0, 1), glue(), box(0, 4)))
 
+    def test_at_first_the_glue_at_the_top_is_none(self):
+        told = first_style()
+        self.assertEqual((told.height, told.max_depth, told.top), (0, 0, NONE))
+        self.assertEqual(last(put(box(-4), FORCED), ASK, PAGE), page_row(0, 0, 0, (0, 0, 1), glue(4), box(-4)))
+
     def test_refused_ones_change_nothing(self):
         refused = [style(60, -1, [9, 0, 0, 0, 0]), style(60, 9, [1]), style(LONGEST + 1, 9), style(60, 9, [0, 0, 4, 0, 0])]
         calls = [style(50, 3, [20, 0, 0, 0, 0])] + refused + [put(box(5, 8), FORCED), ASK, PAGE]
@@ -90,13 +96,13 @@ class ClassTest(unittest.TestCase):
             self.assertEqual(last(class_told(1, five)), [0], five)
 
     def test_past_the_ends(self):
-        for number in (256, 2 ** 63 - 1):
+        for number in (-1, 256, 2 ** 63 - 1):
             self.assertEqual(last(class_told(number)), [-1])
         for factor in (-1, 1000001, -2 ** 63, 2 ** 63 - 1):
             self.assertEqual(last(class_told(1, NONE, factor)), [-1])
         for most in (-LONGEST - 1, LONGEST + 1, -2 ** 63, 2 ** 63 - 1):
             self.assertEqual(last(class_told(1, NONE, 1, most)), [-1])
-        for late in (2, 2 ** 63 - 1):
+        for late in (-1, 2, 2 ** 63 - 1):
             self.assertEqual(last(class_told(1, NONE, 1, 1, late)), [-1])
         for five in glue_rows(1):
             self.assertEqual(last(class_told(1, five)), [-1], five)
@@ -107,6 +113,8 @@ class ClassTest(unittest.TestCase):
 
     def test_at_first_a_class_takes_what_it_is_high(self):
         self.assertEqual(self.goal(), 90)
+        told = class_style({}, 3)
+        self.assertEqual((told.skip, told.factor, told.most, told.late), (NONE, 1000, LONGEST, False))
 
     def test_skip_and_factor_are_used(self):
         self.assertEqual(self.goal(class_told(3, [4, 0, 0, 0, 0], 2000)), 100 - 4 - 20)
