@@ -119,11 +119,12 @@ def left(press, told):
     return [len(things)]
 
 
-# Only how many numbers there are is looked at: nothing is read that's deeper
-# than it may be, and nothing grows deeper by being cut.
+# What a cut leaves was worked out, so a column is looked at as a whole: what's
+# kept can always be told.
 def kept(column):
     if len(list_numbers(column)) > MOST_KEPT:
         raise NotKept("the column has too many numbers")
+    check_told(column)
     return column
 
 
@@ -134,10 +135,10 @@ def ask(press):
     page = page_before(press.column, end, press.style, press.classes)
     box = packed(page.things, page.goal, press.style.max_depth)
     shares = shares_with_things(page)
-    column = kept(left_behind(page, press.column, end))
     check_told([box])
     for number in shares:
         check_told(shares[number])
+    column = kept(left_behind(page, press.column, end))
     marks = page_marks(page, press.last_mark)
     answer = [1, end_penalty(press.column[end])] + marks + list(shares)
     press.last_mark = marks[2]
@@ -162,4 +163,4 @@ def check_told(things):
     try:
         read_list(list_numbers(things))
     except WrongList:
-        raise NotKept("the page can't be told")
+        raise NotKept("a thing can't be told")

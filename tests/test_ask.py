@@ -426,12 +426,40 @@ class RefusedTest(unittest.TestCase):
         self.assertEqual(rows[6:8], [[1, -10000, -1, 7, 7, 3], MORE])
         self.assertEqual(rows[8], page_row(0, 101, 0, (0, 0, 1), mark(7), glue(), box(0)))
 
-    def test_a_class_s_things_past_their_ends(self):
-        # The rest's first glue is LONGEST - (-1): it can wait, but not be told on the second page.
-        note = insertion(3, box(10), penalty(0), box(-1), box(50), five=[LONGEST, 0, 0, 0, 0])
-        told = [style(100), class_told(3, NONE, 0, 10), put(box(9), note, FORCED), ASK]
-        self.assertEqual(last(*told), AT_FORCED + [3])
-        self.refused(*told, put(FORCED))
-        note = insertion(3, box(10), penalty(0), box(0), box(50), five=[LONGEST, 0, 0, 0, 0])
-        told[2] = put(box(9), note, FORCED)
-        self.assertEqual(last(*told, put(FORCED), ASK), AT_FORCED + [3])
+    # What's left begins with the glue told with the cut, less the height of the box behind it.
+    def cut_note(self, size, height):
+        return insertion(3, box(10), penalty(0), box(height), box(LONGEST), box(50), five=[size, 0, 0, 0, 0])
+
+    def test_the_rest_s_glue_past_its_end(self):
+        told = [style(100), class_told(3, NONE, 0, 10)]
+        for size, height in ((LONGEST, -1), (LONGEST, -LONGEST), (1, -LONGEST), (LONGEST - 4, -5)):
+            note = self.cut_note(size, height)
+            self.refused(*told, put(mark(1), box(9), note, FORCED))
+            self.refused(*told, put(mark(3), insertion(4, box(1)), FORCED), ASK, put(box(9), note, FORCED))
+            self.refused(*told, put(insertion(4, box(1)), note, insertion(4, box(500)), FORCED))
+
+    def test_the_rest_s_glue_at_its_end(self):
+        told = [style(100), class_told(3, NONE, 0, 10)]
+        for size, height in ((LONGEST, 0), (0, -LONGEST), (LONGEST - 5, -5)):
+            calls = told + [put(box(9), self.cut_note(size, height), FORCED), ASK]
+            self.assertEqual(last(*calls), AT_FORCED + [3])
+            rest = insertion(3, glue(LONGEST), box(height), box(LONGEST), box(50), five=[size, 0, 0, 0, 0])
+            self.assertEqual(column(pressed(*calls)), [rest, penalty(10000)])
+            self.assertEqual(last(*calls, put(FORCED), ASK), AT_FORCED + [3])
+
+    def test_the_rest_s_glue_is_0_at_least(self):
+        calls = [style(100), class_told(3, NONE, 0, 10), put(box(9), self.cut_note(-LONGEST, 20), FORCED), ASK]
+        self.assertEqual(last(*calls), AT_FORCED + [3])
+
+    def test_a_cut_behind_the_page_s_end_refuses_nothing(self):
+        note = self.cut_note(LONGEST, -1)
+        calls = [style(100), class_told(3, NONE, 0, 10), put(box(60), glue(3), note, box(60), FORCED), ASK]
+        self.assertEqual(last(*calls), AT_GLUE)
+        self.assertEqual(column(pressed(*calls)), [glue(3), note, box(60), FORCED])
+        self.assertEqual(last(*calls, ASK), [-6])
+
+    def test_what_waits_whole_has_no_glue_that_could_be_past_its_end(self):
+        note = self.cut_note(LONGEST, -1)
+        calls = [style(100), class_told(3, NONE, 0, 10, 1), put(box(9), note, FORCED), ASK]
+        self.assertEqual(last(*calls), AT_FORCED)
+        self.assertEqual(column(pressed(*calls)), [note, penalty(10000)])
