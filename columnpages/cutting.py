@@ -36,7 +36,7 @@ def cut_column(things, height, greatest_depth, glue):
         return None
     upper = things[:place]
     rest = rest_of(things[place + 1:], glue)
-    if len(rest) == 0 or first_of(upper, (BOX, RULE, INSERTION)) == len(upper):
+    if len(rest) == 0 or not has_something(upper):
         return None
     return Part(upper, penalty_of(things[place]), rest)
 
@@ -81,6 +81,11 @@ def first_of(things, kinds):
     while place < len(things) and things[place].kind not in kinds:
         place += 1
     return place
+
+
+# Whether there's a thing with which a page or a rest can begin.
+def has_something(things):
+    return first_of(things, (BOX, RULE, INSERTION)) < len(things)
 
 
 # The rest begins with what can be seen; marks and the like before that stay.

@@ -93,14 +93,19 @@ def break_cost(page, penalty):
     return bad + penalty + page.extra
 
 
-# The place of the break at which the page ends. A kern at the column's end
-# hangs on what comes; it's no break here, and so more is wanted anyway.
+# Whether the page that has come to this place may end there. A kern at the
+# column's end hangs on what comes: as yet it's no break.
+def is_break(page, column, place):
+    return page.begun and breaks_at(column, place)
+
+
+# The place of the break at which the page ends.
 def find_end(column, style, classes):
     page = Page(style, classes)
     best = MORE_WANTED
     least = 0
     for place in range(len(column)):
-        if page.begun and breaks_at(column, place):
+        if is_break(page, column, place):
             penalty = penalty_of(column[place])
             cost = break_cost(page, penalty)
             if cost is None:

@@ -1,11 +1,13 @@
 """The calls on one column, read one after another and answered."""
 
 from columnpages.columns import packed
-from columnpages.pages import MORE_WANTED, find_end, page_before, left_behind, end_penalty, page_marks
+from columnpages.cutting import has_something
+from columnpages.pages import MORE_WANTED, break_cost, end_penalty, find_end, is_break, left_behind, page_before
+from columnpages.pages import page_marks
 from columnpages.reading import is_class, is_glue_row, is_length, read_list
-from columnpages.refusals import NotKept, WrongList, WrongStyle
+from columnpages.refusals import NotKept, NotThere, WrongList, WrongStyle
 from columnpages.styles import ClassStyle, Style, first_style
-from columnpages.things import list_numbers
+from columnpages.things import column_end, list_numbers, penalty_of
 
 MOST_KEPT = 2000
 HIGHEST_FACTOR = 1000000
@@ -63,6 +65,8 @@ def answer_or_refusal(press, told):
         return [-1]
     except WrongList:
         return [-3]
+    except NotThere:
+        return [-4]
     except NotKept:
         return [-6]
 
@@ -80,6 +84,18 @@ def answer_call(press, told, number):
         return ask(press)
     if number == 5:
         return list_numbers(press.last_page)
+    if number == 6:
+        return tell_things(press, told)
+    if number == 7:
+        return put_end(press)
+    if number == 8:
+        return drop_column(press)
+    if number == 9:
+        return list_numbers(press.column)
+    if number == 10:
+        return tell_where(press)
+    if number == 11:
+        return tell_cost(press, told)
     raise NoSuchCall(f"there is no call {number}")
 
 
@@ -164,3 +180,44 @@ def check_told(things):
         read_list(list_numbers(things))
     except WrongList:
         raise NotKept("a thing can't be told")
+
+
+def tell_things(press, told):
+    number = told.take_number()
+    if number not in press.last_shares:
+        raise NotThere("nothing of this class is on the last page")
+    return list_numbers(press.last_shares[number])
+
+
+def put_end(press):
+    if not has_something(press.column):
+        return [0]
+    press.column = kept(press.column + column_end())
+    return [1]
+
+
+def drop_column(press):
+    count = len(press.column)
+    press.column = []
+    return [count]
+
+
+def tell_where(press):
+    end = find_end(press.column, press.style, press.classes)
+    if end == MORE_WANTED:
+        raise NotThere("more of the column is wanted")
+    return [end]
+
+
+# Nothing is asked of the breaks before it: the page may have ended there.
+def tell_cost(press, told):
+    place = told.take_number()
+    if place >= len(press.column):
+        raise NotThere("the column isn't so long")
+    page = page_before(press.column, place, press.style, press.classes)
+    if not is_break(page, press.column, place):
+        return [0]
+    cost = break_cost(page, penalty_of(press.column[place]))
+    if cost is None:
+        return [1]
+    return [2, cost]

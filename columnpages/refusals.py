@@ -11,6 +11,11 @@ class WrongList(ValueError):
     pass
 
 
+# Answered by -4: what's asked for isn't there, or more of the column is wanted.
+class NotThere(ValueError):
+    pass
+
+
 # Answered by -6: the column couldn't be kept, or a page couldn't be told.
 class NotKept(ValueError):
     pass

@@ -15,6 +15,7 @@ ANCHOR = 11
 
 LONGEST = 1073741823
 NO_BREAK = 10000
+END_STRETCH = 65536
 COLUMN_BOX = 1
 
 
@@ -117,6 +118,11 @@ def glue_above(glue, solid):
 
 def make_penalty(penalty):
     return Thing([PENALTY, penalty], [])
+
+
+# What fills a last page and ends it.
+def column_end():
+    return [Thing([GLUE, 0, END_STRETCH, 1, 0, 0], []), make_penalty(-NO_BREAK)]
 
 
 # An insertion like the one given, with other things in it.

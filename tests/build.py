@@ -87,8 +87,22 @@ def left(*things):
     return left_row(listed(things))
 
 
+def things_of(number):
+    return [6, number]
+
+
+def cost_at(place):
+    return [11, place]
+
+
 ASK = [4]
 PAGE = [5]
+END = [7]
+DROP = [8]
+COLUMN = [9]
+WHERE = [10]
+
+COLUMN_END = [glue(0, 65536, 1), FORCED]
 
 
 def split(answered):
@@ -117,7 +131,7 @@ def page_row(width, height, depth, setting, *things):
 
 
 def pressed(*calls):
-    """The press after these calls, to look at what no call of this stage tells."""
+    """The press after these calls, to look at all that lasts."""
     press = Press()
     for call in calls:
         answer_or_refusal(press, Calls(call))
